@@ -1,0 +1,1 @@
+"""Poolhopes: who can still win a prediction pool."""
