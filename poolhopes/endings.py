@@ -49,3 +49,15 @@ def count_endings(pool, results):
     """Return the number of endings of a pool for results."""
     # Whatever came before, each match without a name can end in two ways.
     return 1 << (len(matches(pool[0])) - len(results))
+
+
+def all_endings(pool, results):
+    """Return the list of all endings of a pool for results."""
+    found = [()]
+    for at, pair in enumerate(matches(pool[0])):
+        longer = []
+        for start in found:
+            winners = [results[at]] if at in results else [side_behind(part, start) for part in pair]
+            longer.extend([(*start, winner) for winner in winners])
+        found = longer
+    return found

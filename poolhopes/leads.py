@@ -1,4 +1,4 @@
-"""Leads, match by match: what hopes, covers, joint questions and leads of two share.
+"""Leads, match by match: what the modules that search through leads share.
 
 What is ASKED is a tuple of (pool, question), as in a joint question. A TABLE is a list with, for each match,
 a dict from the sides that can win it to lists of leads.
@@ -127,12 +127,16 @@ def sums_at(board, table, at):
     return sums
 
 
+def ends_of(board, table):
+    """Return (side, lead) for each lead of the final."""
+    return [(side, lead) for side in board.coming(board.final) for lead in board.leads_in(table, board.final, side)]
+
+
 def hopeful_end(board, table):
     """Return the first (side, lead) of the final that reaches all margins, or None."""
-    for side in board.coming(board.final):
-        for lead in board.leads_in(table, board.final, side):
-            if is_at_most(board.margins, lead):
-                return (side, lead)
+    for side, lead in ends_of(board, table):
+        if is_at_most(board.margins, lead):
+            return (side, lead)
     return None
 
 

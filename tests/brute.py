@@ -1,5 +1,6 @@
 """What the document says, worked out in the plainest way: by trying all endings, without the library."""
 
+from fractions import Fraction
 from itertools import product
 
 
@@ -203,3 +204,136 @@ def keeps_bounds(pool, results, team, other_team, value, number):
         if one + other + gain_of(asked, at, winner, loser)[0] > value[at][winner]:
             return False
     return max(value[-1].values()) <= number
+
+
+def place_of(points, entrant):
+    """Return the place of an entrant by the points of all."""
+    return 1 + sum(1 for number in points if number > points[entrant])
+
+
+def first_of(points):
+    """Return the ascending tuple of the entrants with place 1."""
+    return tuple([entrant for entrant in range(len(points)) if place_of(points, entrant) == 1])
+
+
+def rows_of(pool, results):
+    """Return (ending, points) for all endings."""
+    return [(ending, points_of(pool, ending)) for ending in endings_of(pool, results)]
+
+
+def hopes_of(pool, results, question):
+    """Return all hopes."""
+    return [ending for ending in endings_of(pool, results) if is_hope_for(((pool, question),), ending)]
+
+
+def hopes_by_gains(pool, results, question):
+    """Return all hopes, quickly enough for sixteen sides."""
+    asked = ((pool, question),)
+    parts = parts_of(pool[0])
+    gains = {duel[:2] + (duel[3],): gain_of(asked, duel[0], duel[1], duel[3]) for duel in duels_of(pool[0], results)}
+    found = []
+    for ending in endings_of(pool, results):
+        # One of the two sides is the winner, so the rest of their sum is the loser.
+        rows = [gains[(at, winner, sum(two_sides(parts, at, ending)) - winner)] for at, winner in enumerate(ending)]
+        if all([sum(numbers) >= question[2] for numbers in zip(*rows)]):
+            found.append(ending)
+    return found
+
+
+def musts_of(results, hopes):
+    """Return the pairs (match, side) that all hopes share and the results do not name, or None."""
+    if not hopes:
+        return None
+    shared = set(enumerate(hopes[0]))
+    for hope in hopes:
+        shared &= set(enumerate(hope))
+    return sorted([pair for pair in shared if pair[0] not in results])
+
+
+def longer_results(pool, results):
+    """Return all results, as dicts, that have these ones in them, with those of fewer matches first."""
+    parts = parts_of(pool[0])
+    found = set()
+    for ending in endings_of(pool, results):
+        due = [frozenset()]
+        for at, pair in enumerate(parts):
+            both = [{number} if kind == "match" else set() for kind, number in pair]
+            more = [named | {at} for named in due if both[0] | both[1] <= named]
+            due = more if at in results else due + more
+        found.update([tuple([(at, ending[at]) for at in sorted(named)]) for named in due])
+    return sorted([dict(pairs) for pairs in found], key=len)
+
+
+def fewest_more(pool, results, question):
+    """Return how many results settle a question with these ones in them, or None."""
+    hopes = set(hopes_of(pool, results, question))
+    for longer in longer_results(pool, results):
+        if all(ending in hopes for ending in endings_of(pool, longer)):
+            return len(longer)
+    return None
+
+
+def chance_of(pool, results, chances, ending):
+    """Return the chance of an ending, as a Fraction."""
+    parts = parts_of(pool[0])
+    total = Fraction(1)
+    for at, winner in enumerate(ending):
+        if at not in results:
+            low, high = sorted(two_sides(parts, at, ending))
+            share = Fraction(*chances[(low, high)])
+            total *= share if winner == low else 1 - share
+    return total
+
+
+def pair_of(share):
+    """Return a Fraction as a tuple in lowest terms."""
+    return (share.numerator, share.denominator)
+
+
+def chance_for(pool, results, chances, question):
+    """Return the chance of a hope, as a Fraction."""
+    hopes = hopes_of(pool, results, question)
+    return sum([chance_of(pool, results, chances, ending) for ending in hopes], Fraction(0))
+
+
+def known_sides(pool, results, at):
+    """Return the ascending list of both sides of a match that the results do not name, or None if not known."""
+    both = []
+    for kind, number in parts_of(pool[0])[at]:
+        both.append(number if kind == "side" else results.get(number))
+    return None if at in results or None in both else sorted(both)
+
+
+def counts_of(asked, results):
+    """Return for each match a dict from the sides that can win it to dicts from the leads to numbers of ways.
+
+    This goes match by match, for trees that have too many endings; it is itself compared with leads_of.
+    """
+    found = [{side: {} for side in sides} for sides in winners_of(asked[0][0][0], results)]
+    nothing = tuple([0 for _, (_, rivals, _) in asked for _ in rivals])
+    for at, winner, its_part, loser, other_part in duels_of(asked[0][0][0], results):
+        gain = gain_of(asked, at, winner, loser)
+        ones = {nothing: 1} if its_part[0] == "side" else found[its_part[1]][winner]
+        others = {nothing: 1} if other_part[0] == "side" else found[other_part[1]][loser]
+        for (one, many), (other, more) in product(ones.items(), others.items()):
+            lead = tuple([sum(three) for three in zip(one, other, gain)])
+            found[at][winner][lead] = found[at][winner].get(lead, 0) + many * more
+    return found
+
+
+def best_margin(pool, results, team, rivals):
+    """Return the greatest margin with which there is a hope, or 200 without rivals."""
+    leads = counts_of(((pool, (team, rivals, 0)),), results)[-1]
+    return max([min((*lead, 200)) for row in leads.values() for lead in row])
+
+
+def chances_to_win(tree, results, chances):
+    """Return for each match a dict from the sides that can win it to the chance of it, as a Fraction."""
+    found = [{side: Fraction(0) for side in sides} for sides in winners_of(tree, results)]
+    for at, winner, its_part, loser, other_part in duels_of(tree, results):
+        its_chance = Fraction(1) if its_part[0] == "side" else found[its_part[1]][winner]
+        other_chance = Fraction(1) if other_part[0] == "side" else found[other_part[1]][loser]
+        share = Fraction(*chances[(min(winner, loser), max(winner, loser))])
+        duel = 1 if at in results else share if winner < loser else 1 - share
+        found[at][winner] += its_chance * other_chance * duel
+    return found

@@ -1,9 +1,12 @@
 """Values that several tests use: the examples of the document, pools at the edges, random pools."""
 
+from fractions import Fraction
+
 POOL = (((0, 3), (1, 2)), (1, 1, 2), 1, ((0, 1, 0), (3, 2, 2), (0, 2, 2)))
 FIRST = ((1,), ((0,), (2,)), 0)
 OTHER = (((0, 3), (1, 2)), (1, 1, 1), 0, ((3, 1, 1), (0, 2, 2)))
 BOTH = ((POOL, FIRST), (OTHER, ((0,), ((1,),), 1)))
+EVEN = {(0, 1): (1, 2), (0, 2): (1, 2), (0, 3): (1, 2), (1, 2): (1, 2), (1, 3): (1, 2), (2, 3): (1, 2)}
 
 # Five sides, so that a side enters late, and some matches of others stand before its first one.
 LATE = ((4, ((0, 3), (2, 1))), (2, 0, 3, 5), 2, ((0, 2, 0, 0), (3, 1, 1, 4), (0, 1, 3, 4), (3, 2, 2, 2)))
@@ -44,6 +47,48 @@ JOINT_301 = (
       ((5, 2, 6, 5, 5, 6, 9, 8, 9, 10), (2, 2, 2, 2, 6, 8, 0, 7, 3, 5), (5, 6, 6, 7, 4, 5, 2, 4, 10, 6))), TWO_RIVALS),
     ((TALL, (5, 11, 3, 13, 0, 11, 16, 15, 2, 2), 2,
       ((2, 6, 0, 2, 4, 8, 2, 4, 7, 2), (2, 2, 6, 0, 6, 2, 9, 9, 8, 3), (5, 5, 2, 6, 7, 6, 8, 8, 4, 1))), TWO_RIVALS))
+
+# Pools in which entrant 0 has exactly 300 and 301 maximal leads turned about: those of all others over it.
+WORST_300 = (
+    (8, (12, (0, (11, (5, (3, (6, (7, (10, (4, (1, (9, 2)))))))))))),
+    (0, 2, 19, 20, 5, 14, 7, 18, 5, 8, 1, 11), 2,
+    ((2, 1, 1, 9, 10, 10, 1, 1, 9, 7, 6, 5), (2, 2, 2, 2, 4, 4, 6, 7, 9, 11, 11, 12),
+     (9, 1, 4, 9, 7, 7, 7, 9, 7, 4, 5, 1), (2, 9, 1, 4, 4, 9, 2, 6, 6, 5, 12, 6),
+     (2, 1, 9, 10, 10, 6, 3, 5, 5, 0, 9, 0)))
+WORST_301 = (
+    (8, (12, (0, (11, (5, (3, (6, (7, (10, (4, (1, (9, 2)))))))))))),
+    (0, 2, 19, 20, 5, 14, 7, 18, 5, 8, 1, 9), 2,
+    ((2, 1, 1, 9, 10, 10, 1, 1, 9, 7, 6, 5), (2, 2, 2, 2, 4, 4, 6, 7, 9, 11, 11, 12),
+     (9, 1, 4, 9, 7, 7, 7, 9, 5, 4, 5, 1), (2, 9, 1, 4, 4, 9, 2, 6, 6, 5, 12, 6),
+     (9, 1, 9, 10, 10, 6, 3, 5, 3, 0, 9, 0)))
+
+# Chains of fourteen sides: at its final, some side has exactly 2,000 and 2,001 different leads of entrant 0 over all
+# others, and so as many different rows of points, the least number taken off each row.
+LEADS_2000 = (
+    (13, (10, (0, (12, (6, (5, (3, (8, (7, (11, (4, (1, (9, 2))))))))))))),
+    (14, 9, 8, 13, 20, 2, 11, 14, 15, 2, 10, 10, 20), 1,
+    ((9, 2, 2, 9, 2, 1, 2, 3, 9, 9, 3, 5, 5), (2, 2, 4, 1, 7, 11, 11, 5, 5, 2, 9, 4, 7),
+     (2, 2, 9, 1, 9, 8, 7, 1, 7, 11, 11, 2, 3), (9, 9, 2, 9, 9, 9, 4, 2, 8, 12, 12, 6, 2),
+     (2, 9, 2, 1, 7, 9, 8, 7, 4, 5, 6, 7, 9)))
+LEADS_2001 = (
+    (13, (10, (0, (12, (6, (5, (3, (8, (7, (11, (4, (1, (9, 2))))))))))))),
+    (16, 3, 8, 20, 18, 3, 5, 12, 12, 10, 10, 1, 12), 8,
+    ((2, 2, 9, 1, 2, 1, 2, 3, 9, 1, 3, 5, 2), (2, 1, 9, 2, 1, 11, 9, 5, 5, 2, 9, 4, 3),
+     (2, 1, 4, 1, 9, 11, 11, 7, 7, 11, 11, 2, 7), (9, 1, 2, 1, 1, 9, 4, 4, 8, 12, 12, 6, 0),
+     (2, 2, 1, 9, 7, 8, 7, 1, 9, 7, 6, 7, 12)))
+# The same on balanced trees of sixteen sides.
+EVEN_2000 = (
+    ((((4, 9), (13, 12)), ((1, 15), (11, 7))), (((8, 3), (5, 6)), ((14, 0), (10, 2)))),
+    (20, 16, 17, 7, 17, 8, 6, 0, 7, 8, 10, 17, 6, 10, 17), 3,
+    ((9, 12, 9, 1, 7, 7, 12, 8, 5, 6, 0, 2, 2, 6, 0), (4, 13, 9, 15, 7, 11, 13, 8, 6, 6, 14, 2, 0, 0, 14),
+     (4, 13, 9, 15, 7, 11, 7, 8, 6, 6, 0, 2, 0, 14, 15), (9, 13, 4, 1, 7, 11, 9, 3, 5, 5, 14, 10, 10, 0, 12),
+     (9, 12, 9, 15, 11, 11, 4, 3, 5, 6, 14, 2, 2, 2, 15)))
+EVEN_2001 = (
+    ((((4, 9), (13, 12)), ((1, 15), (11, 7))), (((8, 3), (5, 6)), ((14, 0), (10, 2)))),
+    (8, 12, 15, 2, 9, 12, 8, 20, 20, 17, 4, 0, 4, 4, 15), 5,
+    ((4, 12, 13, 1, 11, 7, 1, 3, 5, 8, 0, 10, 14, 5, 13), (9, 13, 4, 15, 11, 11, 1, 8, 6, 3, 0, 2, 10, 10, 12),
+     (4, 13, 4, 1, 7, 7, 1, 8, 5, 5, 0, 10, 14, 2, 15), (4, 13, 9, 15, 11, 7, 13, 3, 6, 8, 14, 10, 0, 3, 10),
+     (9, 12, 12, 1, 11, 11, 12, 8, 6, 3, 0, 10, 10, 0, 0)))
 
 
 def deep(innermost, many, kind):
@@ -123,6 +168,48 @@ def random_pool(source, tree, inside, entrants, most=20):
     points = tuple([source.randint(0, most) for _ in inside])
     sheets = tuple([tuple([source.choice(sides) for sides in inside]) for _ in range(entrants)])
     return (tree, points, source.choice((0, 0, 1, 2, 9)), sheets)
+
+
+def random_chances(source, many, bottoms=(2, 3, 10)):
+    """Return random chances for so many sides, some of them 0 and 1."""
+    found = {}
+    for one in range(many):
+        for other in range(one + 1, many):
+            bottom = source.choice(bottoms)
+            share = Fraction(source.choice((0, bottom, *[source.randint(0, bottom) for _ in range(4)])), bottom)
+            found[(one, other)] = (share.numerator, share.denominator)
+    return found
+
+
+def split_first(pool):
+    """Return a pool in which the first side of the first match has to play a new last side ahead of it.
+
+    All named the old one there; the new side is named by nobody.
+    """
+    tree, points, bonus, sheets = pool
+    first = tree
+    while not isinstance(first, int):
+        first = first[1] if isinstance(first[0], int) and not isinstance(first[1], int) else first[0]
+    new = len(points) + 1
+    return (with_side(tree, first, (first, new)), (1, *points), bonus, tuple([(first, *sheet) for sheet in sheets]))
+
+
+def hidden_301():
+    """Return a pool that goes far over 300 maximal leads only if the new side 13 loses the first match.
+
+    If it wins there, that is so much better for entrant 0 that few leads stay maximal.
+    """
+    tree, points, bonus, sheets = CHAIN_301
+    starts = (13, 2, 2, 2, 2)
+    longer = tuple([(start, *sheet) for start, sheet in zip(starts, sheets)])
+    return (with_side(tree, 2, (2, 13)), (20, *points), bonus, longer)
+
+
+def with_side(tree, side, other):
+    """Return a tree with another tree in the place of a side."""
+    if isinstance(tree, int):
+        return other if tree == side else tree
+    return tuple([with_side(part, side, other) for part in tree])
 
 
 def random_team(source, entrants):

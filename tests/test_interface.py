@@ -13,6 +13,20 @@ FUNCTIONS = {
               "find_joint_cover(joint, results)", "is_joint_cover(joint, results, value)"),
     "pairs": ("greatest_lead(pool, results, team, other)", "find_greatest(pool, results, team, other)",
               "find_bounds(pool, results, team, other)", "show_bounds(pool, results, team, other, value, number)"),
+    "places": ("best_place(pool, results, entrant)", "worst_place(pool, results, entrant)", "hopeful(pool, results)"),
+    "musts": ("musts(pool, results, question)", "settling(pool, results, question)"),
+    "counts": ("count_hopes(pool, results, question)", "lead_counts(pool, results, question)"),
+    "chances": ("are_chances(pool, value)", "chance(pool, results, chances, question)",
+                "chance_if(pool, results, chances, question, match)", "helping(pool, results, chances, question)",
+                "shares(pool, results, chances)"),
+    "standings": ("place_counts(pool, results, entrant)", "place_chances(pool, results, chances, entrant)",
+                  "leaders(pool, results)"),
+    "texts": ("write_sheet(sheet)", "read_sheet(tree, text)"),
+    "logs": ("log(desk)", "is_log(pool, value)", "replayed(pool, log)"),
+}
+METHODS = {
+    ("desk", "Desk"): ("__init__(self, pool)", "__eq__(self, other)", "result(self, match, side)",
+                       "claim(self, question)", "undo(self)", "results(self)", "claims(self)", "hope(self, question)"),
 }
 ERRORS = ("PoolhopesError", "InvalidEvent", "Refused", "TooMany", "InvalidText")
 
@@ -26,6 +40,16 @@ class InterfaceTest(unittest.TestCase):
                 made = getattr(found, name)
                 self.assertEqual(made.__module__, f"poolhopes.{module}", name)
                 self.assertEqual(list(signature(made).parameters), parameters.split(", "), name)
+
+    def test_methods_stand_in_their_classes(self):
+        for (module, name), methods in METHODS.items():
+            found = getattr(import_module(f"poolhopes.{module}"), name)
+            self.assertTrue(isclass(found))
+            self.assertEqual(found.__module__, f"poolhopes.{module}")
+            for method in methods:
+                called, parameters = method[:-1].split("(")
+                self.assertIn(called, vars(found))
+                self.assertEqual(list(signature(vars(found)[called]).parameters), parameters.split(", "), called)
 
     def test_errors_stand_in_their_module(self):
         found = import_module("poolhopes.errors")
