@@ -6,25 +6,13 @@ from poolhopes.counts import board_of_all, hopeful_weight, points_behind, weight
 from poolhopes.fractions import fraction_of, is_fraction
 from poolhopes.leads import Board
 from poolhopes.places import first_of
-from poolhopes.pools import known_side
-from poolhopes.trees import is_int, matches
+from poolhopes.pools import has_just_pairs, sides_at
+from poolhopes.trees import matches
 
 
 def are_chances(pool, value):
     """Return whether any value is chances of a pool."""
-    sides = range(len(matches(pool[0])) + 1)
-    pairs = [(one, other) for one in sides for other in sides if one < other]
-    if not isinstance(value, dict) or len(value) != len(pairs):
-        return False
-    # Bools are found under 0 and 1 in a dict, so the kinds come first.
-    if not all([is_pair(key) and is_chance(value[key]) for key in value]):
-        return False
-    return sorted(value) == pairs
-
-
-def is_pair(value):
-    """Return whether any value is a tuple of two integers."""
-    return isinstance(value, tuple) and len(value) == 2 and all([is_int(side) for side in value])
+    return has_just_pairs(pool, value) and all([is_chance(share) for share in value.values()])
 
 
 def is_chance(value):
@@ -60,12 +48,6 @@ def chance(pool, results, chances, question):
     board = Board(((pool, question),), results)
     end, whole = chances_at_end(board, results, chances)
     return fraction_of(hopeful_weight(board, end), whole)
-
-
-def sides_at(pool, results, match):
-    """Return the ascending list of the two sides of a match, or None if a part is not known by the results."""
-    known = [known_side(part, results) for part in matches(pool[0])[match]]
-    return None if None in known else sorted(known)
 
 
 def chance_if(pool, results, chances, question, match):

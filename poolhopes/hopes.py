@@ -32,8 +32,12 @@ def is_hope(pool, results, question, value):
     """Return whether any value is a hope."""
     if not is_ending(pool, results, value):
         return False
+    return reaches(scores(pool, value), question)
+
+
+def reaches(points, question):
+    """Return whether the points of all entrants are those of a hope."""
     team, rivals, margin = question
-    points = scores(pool, value)
     mine = points_of(points, team)
     return all([mine - points_of(points, rival) >= margin for rival in rivals])
 

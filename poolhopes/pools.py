@@ -63,3 +63,24 @@ def known_side(part, results):
     """Return the side that a part of a match is by the results, or None if they leave it open."""
     kind, number = part
     return number if kind == "side" else results.get(number)
+
+
+def sides_at(pool, results, match):
+    """Return the ascending list of the two sides of a match, or None if a part is not known by the results."""
+    known = [known_side(part, results) for part in matches(pool[0])[match]]
+    return None if None in known else sorted(known)
+
+
+def has_just_pairs(pool, value):
+    """Return whether any value is a dict from just the pairs of sides of a pool, the lesser one first."""
+    sides = range(len(matches(pool[0])) + 1)
+    pairs = [(one, other) for one in sides for other in sides if one < other]
+    if not isinstance(value, dict) or len(value) != len(pairs):
+        return False
+    # Bools are found under 0 and 1 in a dict, so the kinds come first.
+    return all([is_pair(key) for key in value]) and sorted(value) == pairs
+
+
+def is_pair(value):
+    """Return whether any value is a tuple of two integers."""
+    return isinstance(value, tuple) and len(value) == 2 and all([is_int(side) for side in value])

@@ -23,6 +23,15 @@ FUNCTIONS = {
                   "leaders(pool, results)"),
     "texts": ("write_sheet(sheet)", "read_sheet(tree, text)"),
     "logs": ("log(desk)", "is_log(pool, value)", "replayed(pool, log)"),
+    "fractions": ("is_fraction(value)", "fraction_of(top, bottom)", "total_of(some)", "product_of(one, other)",
+                  "is_not_more(one, other)", "cut_to(value, low, high)"),
+    "contracts": ("is_contract(pool, value)", "is_book(pool, value)", "pays(pool, book, ending)",
+                  "next_match(pool, results)"),
+    "quotes": ("are_quotes(pool, value)", "bet_limits(ladder)", "cost(ladder, bet)",
+               "is_better(pool, quotes, others)", "find_worse(pool, quotes, others)"),
+    "worths": ("worth(pool, results, quotes, book)", "find_plan(pool, results, quotes, book)",
+               "secures(pool, results, quotes, book, value, money)",
+               "falls_short(pool, results, quotes, book, plan, money)"),
 }
 METHODS = {
     ("desk", "Desk"): ("__init__(self, pool)", "__eq__(self, other)", "result(self, match, side)",
