@@ -24,7 +24,7 @@ class Outlook:
         for at in range(many):
             if at not in results:
                 named = self.longer(pool, quotes, at, named)
-        self.endings = {row: tuple([known[at] for at in range(many)]) for row, known in named.items()}
+        self.endings = {row: tuple([known[match] for match in range(many)]) for row, known in named.items()}
         self.paid = {row: pays(pool, book, ending) for row, ending in self.endings.items()}
 
     def longer(self, pool, quotes, at, named):

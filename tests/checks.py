@@ -2,6 +2,8 @@
 
 from copy import deepcopy
 
+from poolhopes.errors import TooMany
+
 
 def holders(value):
     """Return all lists and dicts within a value, and itself if it is one."""
@@ -49,3 +51,11 @@ def check_all_orders(test, call, results):
         order = keys[start:] + keys[:start]
         for names in (order, order[::-1]):
             test.assertEqual(call({name: results[name] for name in names}), expected)
+
+
+def check_too_many(test, limit, call, *arguments):
+    """Check that a call raises TooMany with this limit."""
+    with test.assertRaises(TooMany) as caught:
+        call(*arguments)
+    test.assertIs(type(caught.exception), TooMany)
+    test.assertEqual(caught.exception.limit, limit)

@@ -6,7 +6,8 @@ Fractions are Fraction objects here; pair_of and share_of go from them to tuples
 from fractions import Fraction
 
 from tests.brute import endings_of, first_of, inside_of, is_hope_for, pair_of, parts_of, place_of, points_of, two_sides
-from tests.samples import even_tree, random_pool, random_question, random_team
+from tests.samples import (FIRST, even_tree, random_pool, random_question, random_results, random_team,
+                           random_tree)
 
 TWO = ((0, 1), (1,), 0, ((0,), (1,)))
 TEN = ((10, ("hope", ((0,), ((1,),), 1))),)
@@ -17,11 +18,26 @@ NO_LADDER = ((), ())
 # Three steps each way, with prices of 0 and 1, bottoms of 100, and one price on both sides.
 WIDE = ((((41, 100), 5), ((3, 4), 7), ((1, 1), 10000000)), (((41, 100), 1), ((1, 100), 20), ((0, 1), 3)))
 HUGE = 10 ** 999
+LITTLE = Fraction(1, 10 ** 9)
+# For the pool of the examples: the same ladder for all pairs, and a book with a thing of each kind.
+FLAT = {(one, other): LADDER for one in range(4) for other in range(4) if one < other}
+BOOK = (((6, ("share", 0)), (2, ("place", 2, 2)), (3, ("lead", (0,), (1,)))), ((-5, ("hope", FIRST)),))
 
 
 def share_of(pair):
     """Return a fraction that is a tuple as a Fraction."""
     return Fraction(*pair)
+
+
+def is_as_good(ladder, other):
+    """Return whether each bet at another ladder can be made at this one, and costs at most as much.
+
+    All corners are integers, so that trying all integers is enough.
+    """
+    low, high = limits_of(other)
+    mine = limits_of(ladder)
+    return mine[0] <= low and high <= mine[1] and all(
+        cost_of(ladder, Fraction(bet)) <= cost_of(other, Fraction(bet)) for bet in range(low, high + 1))
 
 
 def paid_by_thing(pool, thing, ending):
@@ -203,6 +219,15 @@ def random_contract(source, entrants, amount=30, items=3):
 def random_book(source, entrants, contracts=3):
     """Return a random book."""
     return tuple([random_contract(source, entrants) for _ in range(source.randint(0, contracts))])
+
+
+def random_case(source, sides, tickets=20):
+    """Return a random pool with at most so many sides, results, quotes and a book."""
+    many = source.randint(2, sides)
+    tree = random_tree(source, many)
+    pool = random_pool(source, tree, inside_of(tree), source.randint(1, 5), source.choice((1, 3, 20)))
+    results = random_results(source, parts_of(tree), source.choice((0, 0, 1, 2, many - 1)))
+    return pool, results, random_quotes(source, many, tickets), random_book(source, len(pool[3]))
 
 
 def full_ladder(at):

@@ -5,7 +5,7 @@ from random import Random
 from poolhopes.desk import Desk
 from poolhopes.errors import InvalidEvent, PoolhopesError, Refused, TooMany
 from poolhopes.logs import log
-from tests.brute import best_margin, hopes_of, inside_of, known_sides, parts_of
+from tests.brute import best_margin, hopes_of, inside_of, known_sides
 from tests.samples import (CHAIN_300, CHAIN_301, EVEN_300, FIRST, FOUR_RIVALS, LATE, POOL, deep, junk, random_pool,
                            random_question, random_tree, twists)
 

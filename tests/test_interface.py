@@ -32,10 +32,23 @@ FUNCTIONS = {
     "worths": ("worth(pool, results, quotes, book)", "find_plan(pool, results, quotes, book)",
                "secures(pool, results, quotes, book, value, money)",
                "falls_short(pool, results, quotes, book, plan, money)"),
+    "scenarios": ("allowance(ladder, chance)", "scenario_sum(pool, results, quotes, book, scenario)",
+                  "find_scenario(pool, results, quotes, book)",
+                  "shows_more(pool, results, quotes, book, value, money)"),
+    "bets": ("next_bet(pool, results, quotes, book)", "need_with(pool, results, quotes, book, bet)",
+             "safe_bets(pool, results, quotes, book, money)"),
+    "houselogs": ("house_log(house)", "first_house_fault(pool, value)", "is_house_log(pool, value)",
+                  "house_behind(pool, log)"),
 }
 METHODS = {
     ("desk", "Desk"): ("__init__(self, pool)", "__eq__(self, other)", "result(self, match, side)",
                        "claim(self, question)", "undo(self)", "results(self)", "claims(self)", "hope(self, question)"),
+    ("houses", "House"): ("__init__(self, pool, quotes, money)", "__eq__(self, other)", "sell(self, contract, price)",
+                          "buy_back(self, number, price)", "put_in(self, amount)", "take_out(self, amount)",
+                          "better(self, quotes)", "result(self, side)", "pay_out(self)", "judge(self, event)",
+                          "undo(self)", "money(self)", "results(self)", "quotes(self)", "contracts(self)",
+                          "worth(self)", "next_bet(self)"),
+    ("houseerrors", "Unsecured"): ("__init__(self, scenario)",),
 }
 ERRORS = ("PoolhopesError", "InvalidEvent", "Refused", "TooMany", "InvalidText")
 

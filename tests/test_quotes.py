@@ -5,8 +5,8 @@ from random import Random
 from poolhopes.quotes import are_quotes, bet_limits, cost, find_worse, is_better
 from tests.brute import inside_of, pair_of
 from tests.checks import check_all_orders, check_bool
-from tests.money import (HUGE, LADDER, NO_LADDER, QUOTES, TWO, WIDE, cost_of, full_ladder, large, limits_of, pairs_of,
-                         random_ladder, random_quotes, share_of)
+from tests.money import (FLAT, HUGE, LADDER, NO_LADDER, QUOTES, TWO, WIDE, cost_of, full_ladder, is_as_good, large,
+                         limits_of, pairs_of, random_ladder, random_quotes, share_of)
 from tests.samples import POOL, deep, junk, random_pool, random_tree, twists
 
 STEP = ((1, 2), 5)
@@ -269,6 +269,9 @@ class BetterTest(unittest.TestCase):
             self.assertIsNotNone(find_worse(POOL, quotes, better))
         check_all_orders(self, lambda some: find_worse(POOL, {**quotes, (1, 3): NO_LADDER}, some), quotes)
         check_all_orders(self, lambda some: find_worse(POOL, some, quotes), {**quotes, (1, 3): NO_LADDER})
+        # Where several pairs are worse, the order of the keys does not choose.
+        check_all_orders(self, lambda some: find_worse(POOL, FLAT, some), quotes)
+        check_all_orders(self, lambda some: find_worse(POOL, some, quotes), FLAT)
 
     def test_random_ladders(self):
         source = Random(102)
@@ -276,11 +279,7 @@ class BetterTest(unittest.TestCase):
         for _ in range(1500):
             other = random_ladder(source, 5)
             ladder = self.changed(source, other)
-            low, high = limits_of(other)
-            mine = limits_of(ladder)
-            # All corners are integers, so that trying all integers is enough.
-            good = mine[0] <= low and high <= mine[1] and all(
-                cost_of(ladder, Fraction(bet)) <= cost_of(other, Fraction(bet)) for bet in range(low, high + 1))
+            good = is_as_good(ladder, other)
             kinds[good] += 1
             self.check(good, ladder, other)
         self.assertGreater(min(kinds.values()), 200)

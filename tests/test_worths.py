@@ -5,18 +5,13 @@ from itertools import product
 from random import Random
 from time import perf_counter
 
-from poolhopes.errors import TooMany
 from poolhopes.worths import falls_short, find_plan, secures, worth
 from tests.brute import endings_of, inside_of, pair_of, parts_of
-from tests.checks import check_all_orders, check_bool, check_new
-from tests.money import (HUGE, LADDER, NO_LADDER, OWED, QUOTES, TEN, TWO, WIDE, brought_by, cost_of, courses_of,
-                         exact_of, full_pool, keeps_plan, large, limits_of, missing_by_ending, next_of, paid_by_book,
-                         pairs_of, random_book, random_quotes, share_of, worth_of)
+from tests.checks import check_all_orders, check_bool, check_new, check_too_many
+from tests.money import (BOOK, FLAT, HUGE, LADDER, LITTLE, NO_LADDER, OWED, QUOTES, TEN, TWO, WIDE, brought_by, cost_of,
+                         courses_of, exact_of, full_pool, keeps_plan, large, limits_of, missing_by_ending, next_of,
+                         paid_by_book, pairs_of, random_book, random_case, random_quotes, share_of, worth_of)
 from tests.samples import FIRST, POOL, deep, junk, random_pool, random_results, random_tree, twists
-
-LITTLE = Fraction(1, 10 ** 9)
-FLAT = {pair: LADDER for pair in pairs_of(4)}
-BOOK = (((6, ("share", 0)), (2, ("place", 2, 2)), (3, ("lead", (0,), (1,)))), ((-5, ("hope", FIRST)),))
 
 
 def bets_of(ladder, bottom):
@@ -105,24 +100,16 @@ class WorthTest(MoneyCase):
     def test_an_empty_book_has_no_worth(self):
         source = Random(110)
         for _ in range(20):
-            pool, results, quotes, _ = self.random_case(source, 5)
+            pool, results, quotes, _ = random_case(source, 5)
             for book in ((), ((),), ((), ())):
                 found, plan = self.check_worth(pool, results, quotes, book)
                 self.assertEqual(found, (0, 1))
                 self.assertLessEqual(set(plan.values()), {(0, 1)})
 
-    def random_case(self, source, sides, tickets=20):
-        """Return a random pool, results, quotes and book."""
-        many = source.randint(2, sides)
-        tree = random_tree(source, many)
-        pool = random_pool(source, tree, inside_of(tree), source.randint(1, 5), source.choice((1, 3, 20)))
-        results = random_results(source, parts_of(tree), source.choice((0, 0, 1, 2, many - 1)))
-        return pool, results, random_quotes(source, many, tickets), random_book(source, len(pool[3]))
-
     def test_random_cases(self):
         source = Random(111)
         for _ in range(120):
-            pool, results, quotes, book = self.random_case(source, 6, source.choice((3, 20, 500)))
+            pool, results, quotes, book = random_case(source, 6, source.choice((3, 20, 500)))
             found, plan = self.check_worth(pool, results, quotes, book)
             # With one price for both and enough tickets, a book is worth what its contracts are worth together.
             steps = (((1, 2), 10 ** 7),)
@@ -275,12 +262,6 @@ class SecuresTest(MoneyCase):
 
 
 class ManyMatchesTest(MoneyCase):
-    def check_too_many(self, call, *arguments):
-        with self.assertRaises(TooMany) as caught:
-            call(*arguments)
-        self.assertIs(type(caught.exception), TooMany)
-        self.assertEqual(caught.exception.limit, 8)
-
     def test_eight_and_nine_open_matches(self):
         source = Random(114)
         for many in (10, 16):
@@ -288,11 +269,11 @@ class ManyMatchesTest(MoneyCase):
             for named in (0, many - 10, many - 9, many - 5, many - 1):
                 results = random_results(source, parts_of(pool[0]), named)
                 if many - 1 - named > 8:
-                    self.check_too_many(worth, pool, results, quotes, book)
-                    self.check_too_many(find_plan, pool, results, quotes, ())
-                    self.check_too_many(falls_short, pool, results, quotes, book, {}, (0, 1))
+                    check_too_many(self, 8, worth, pool, results, quotes, book)
+                    check_too_many(self, 8, find_plan, pool, results, quotes, ())
+                    check_too_many(self, 8, falls_short, pool, results, quotes, book, {}, (0, 1))
                     for value in (None, {}, [], {(): (0, 1)}, 0, {(): None}):
-                        self.check_too_many(secures, pool, results, quotes, book, value, (0, 1))
+                        check_too_many(self, 8, secures, pool, results, quotes, book, value, (0, 1))
                 else:
                     plan = find_plan(pool, results, quotes, book)
                     self.assertEqual(sorted(plan), sorted(courses_of(pool, results)))
