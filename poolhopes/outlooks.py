@@ -35,7 +35,8 @@ class Outlook:
             self.sides[course] = (low, high)
             self.ladders[course] = quotes[(low, high)]
             for side in (low, high):
-                found[(*course, side)] = {**known, at: side}
+                row = (*course, side)
+                found[row] = {**known, at: side}
         return found
 
     def last_first(self):
