@@ -46,7 +46,9 @@ class Outlook:
     def both(self, by_row, course):
         """Return what a dict holds for the two rows that are one match longer than a course, s winning first."""
         low, high = self.sides[course]
-        return (by_row[(*course, low)], by_row[(*course, high)])
+        low_row = (*course, low)
+        high_row = (*course, high)
+        return (by_row[low_row], by_row[high_row])
 
     def exact_plan(self):
         """Return the plan of the exact bets, and a dict from each row to the worth behind it."""
